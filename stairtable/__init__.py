@@ -1,0 +1,1 @@
+"""Rows of numbers bumped into tables like stairs, and taken out again."""
