@@ -1,4 +1,4 @@
-"""The rules of the language that can be seen in the package's files."""
+"""Those rules of the language that a walk over the files shows plainly; the others are kept by reading."""
 
 import ast
 import builtins
