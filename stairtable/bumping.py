@@ -1,7 +1,7 @@
 """Numbers bumped into a stair table, and taken out of it at a corner."""
 
 from stairtable.errors import NoLine
-from stairtable.stairs import copied, corners, must_be_table, shape_of
+from stairtable.stairs import copied, corners, must_be_table, shape_of, shorten
 
 
 # push and pull change the table that they are given and ask nothing of it, so that a
@@ -26,10 +26,7 @@ def push(table, number):
 
 
 def pull(table, last):
-    number = table[last].pop()
-    if len(table[last]) == 0:
-        # No line is longer than the one ahead of it, so only the last one can run out.
-        table.pop()
+    number = shorten(table, last)
     at = last - 1
     while at >= 0:
         line = table[at]

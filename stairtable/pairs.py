@@ -1,28 +1,21 @@
 """Rows of numbers as pairs of a table and marks."""
 
 from stairtable.bumping import pull, push
-from stairtable.errors import NoMarks, NoPair
-from stairtable.stairs import copied, is_marked, must_be_table, shape_of
-
-
-def put_mark(marks, grown, mark):
-    if grown == len(marks):
-        marks.append([])
-    marks[grown].append(mark)
+from stairtable.errors import NoPair
+from stairtable.stairs import copied, marks_of, must_be_marked, must_be_table, shape_of
 
 
 def both(numbers):
     table = []
-    marks = []
-    for mark, number in enumerate(numbers):
-        put_mark(marks, push(table, number), mark)
-    return (table, marks)
+    grown = []
+    for number in numbers:
+        grown.append(push(table, number))
+    return (table, marks_of(grown))
 
 
 def must_be_pair(lines, marks):
     must_be_table(lines)
-    if not is_marked(marks):
-        raise NoMarks("the lines are no marks")
+    must_be_marked(marks)
     if shape_of(lines) != shape_of(marks):
         raise NoPair("the table and the marks have different shapes")
 

@@ -1,6 +1,6 @@
 """Shapes, stair tables and marks."""
 
-from stairtable.errors import NoShape, NoTable
+from stairtable.errors import NoMarks, NoShape, NoTable
 
 
 def shape_of(lines):
@@ -49,8 +49,42 @@ def must_be_table(lines):
         raise NoTable("the lines are no stair table")
 
 
+def must_be_marked(lines):
+    if not is_marked(lines):
+        raise NoMarks("the lines are no marks")
+
+
+def must_be_shape(lengths):
+    if not is_shape(lengths):
+        raise NoShape("the list is no shape")
+
+
 def copied(lines):
     return [list(line) for line in lines]
+
+
+# lengthen and shorten change the lines that they are given.
+
+
+def lengthen(lines, at, number):
+    if at == len(lines):
+        lines.append([])
+    lines[at].append(number)
+
+
+def shorten(lines, at):
+    number = lines[at].pop()
+    if len(lines[at]) == 0:
+        # No line is longer than the one ahead of it, so only the last one can run out.
+        lines.pop()
+    return number
+
+
+def marks_of(grown):
+    marks = []
+    for mark, at in enumerate(grown):
+        lengthen(marks, at, mark)
+    return marks
 
 
 def read_out(lines):
@@ -69,8 +103,7 @@ def columns(lines):
 
 
 def corners(shape):
-    if not is_shape(shape):
-        raise NoShape("the list is no shape")
+    must_be_shape(shape)
     # A nought behind the last line makes that line longer than the next one, so a corner.
     behind = shape[1:] + [0]
     return [at for at in range(len(shape)) if shape[at] > behind[at]]

@@ -1,6 +1,7 @@
 """Rows, tables and marks for the tests, made without the program."""
 
 import itertools
+from bisect import bisect_right
 
 HUGE = 10 ** 100 - 1
 
@@ -95,6 +96,25 @@ def all_marks(shape):
         if plainly_a_table(lines):
             found.append(lines)
     return found
+
+
+def plainly_both(numbers):
+    """Point 8, told line by line: each line passes on to the next what leaves it."""
+    table, marks = [], []
+    coming = list(enumerate(numbers))
+    while coming:
+        line, marked, leaving = [], [], []
+        for mark, number in coming:
+            place = bisect_right(line, number)
+            if place == len(line):
+                marked.append(mark)
+            else:
+                leaving.append((mark, line[place]))
+            line[place:place + 1] = [number]
+        table.append(line)
+        marks.append(marked)
+        coming = leaving
+    return (table, marks)
 
 
 def scattered(count, step, bound):

@@ -127,6 +127,30 @@ class Names(unittest.TestCase):
             if isinstance(node.func, ast.Attribute):
                 self.assertIn(node.func.attr, METHODS + own, (name, node.lineno))
 
+    def test_values_of_objects(self):
+        methods = [part.name for _, node in nodes(ast.ClassDef) for part in node.body
+                   if isinstance(part, ast.FunctionDef)]
+        pythons = [word for kind in (str, int, list, tuple, dict, set, bytes, ValueError) for word in dir(kind)]
+        for name, node in nodes(ast.Attribute):
+            if isinstance(node.ctx, ast.Store):
+                self.assertNotIn(node.attr, methods + pythons, (name, node.lineno))
+                self.assertFalse(node.attr.startswith("_"), (name, node.lineno))
+
+
+class Errors(unittest.TestCase):
+    def test_errors_are_taken_by_the_name_of_a_class_of_the_package(self):
+        own = [node.name for name, node in nodes(ast.ClassDef) if name == "errors.py"]
+        for name, node in nodes(ast.ExceptHandler):
+            self.assertIsInstance(node.type, ast.Name, (name, node.lineno))
+            self.assertIn(node.type.id, own, (name, node.lineno))
+        for name, node in nodes(ast.Raise):
+            self.assertIsInstance(node.exc, ast.Call, (name, node.lineno))
+            self.assertIn(node.exc.func.id, own, (name, node.lineno))
+
+    def test_no_finally(self):
+        for name, node in nodes(ast.Try):
+            self.assertEqual(node.finalbody, [], (name, node.lineno))
+
 
 if __name__ == "__main__":
     unittest.main()

@@ -1,31 +1,11 @@
 import itertools
 import unittest
-from bisect import bisect_right
 
 from stairtable.errors import NoMarks, NoPair, NoTable, StairError
 from stairtable.pairs import both, numbers_of, same_table
 from stairtable.stairs import columns, is_marked, is_table, read_out
 from tests.helper import (HUGE, NO_TABLES, SHAPES, TABLES, TABLES_NO_MARKS, all_marks, all_tables,
-                          long_rows, scattered, short_rows)
-
-
-def plainly_both(numbers):
-    """Point 8, told line by line: each line passes on to the next what leaves it."""
-    table, marks = [], []
-    coming = list(enumerate(numbers))
-    while coming:
-        line, marked, leaving = [], [], []
-        for mark, number in coming:
-            place = bisect_right(line, number)
-            if place == len(line):
-                marked.append(mark)
-            else:
-                leaving.append((mark, line[place]))
-            line[place:place + 1] = [number]
-        table.append(line)
-        marks.append(marked)
-        coming = leaving
-    return (table, marks)
+                          long_rows, plainly_both, scattered, short_rows)
 
 
 class Both(unittest.TestCase):

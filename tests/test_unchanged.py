@@ -1,28 +1,42 @@
 import copy
 import unittest
 
+from stairtable.book import answers
 from stairtable.bumping import bumped, unbumped
+from stairtable.counting import how_many_marks
 from stairtable.errors import StairError
 from stairtable.pairs import both, numbers_of, same_table
+from stairtable.rising import longest_falling, longest_rising
+from stairtable.sliding import emptied, slid
 from stairtable.stairs import columns, corners, is_marked, is_table, read_out
 from tests.helper import NO_TABLES, TABLES, TABLES_NO_MARKS, long_rows
 
 ROWS = [[], [5], [3, 1, 2], [2, 1, 2, 1], [4, 1, 3, 1, 2, 5, 0]] + long_rows()[-2:]
 LINES = TABLES + NO_TABLES + TABLES_NO_MARKS + [[[0, 2], [1]], [[0, 1], [2]], [[0, 1, 2], [3, 4]]]
 
+DAYS = [
+    [],
+    [("undo",)],
+    [("look",), ("look",)],
+    [("put", 2), ("look",), ("put", 1), ("look",), ("look",), ("undo",), ("look",), ("undo",), ("undo",), ("look",)],
+]
+
 
 def calls():
     """Each function with many inputs, such as it refuses among them."""
     found = []
     for lines in LINES:
-        found += [(function, (lines,)) for function in (is_table, is_marked, read_out, columns)]
+        found += [(function, (lines,)) for function in (is_table, is_marked, read_out, columns, slid, emptied)]
         found += [(bumped, (lines, number)) for number in (-9, 1, 2, 9)]
         found += [(unbumped, (lines, last)) for last in (-1, 0, 1, 2, 3)]
         found += [(numbers_of, (lines, marks)) for marks in LINES]
     for shape in ([], [1], [2, 2, 1], [3, 2], [1, 2], [0], [-1]):
-        found.append((corners, (shape,)))
+        found += [(function, (shape,)) for function in (corners, how_many_marks)]
+    for deeds in DAYS:
+        found.append((answers, (deeds,)))
     for row in ROWS:
-        found.append((both, (row,)))
+        found += [(function, (row,)) for function in (both, longest_rising, longest_falling)]
+        found += [(function, (both(row)[1],)) for function in (slid, emptied)]
         found.append((numbers_of, both(row)))
         found += [(same_table, (row, other)) for other in ROWS]
     return [(function, copy.deepcopy(given)) for function, given in found]
